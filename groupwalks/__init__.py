@@ -1,0 +1,1 @@
+"""Groupwalks: walks through all of a group."""
