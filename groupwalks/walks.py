@@ -1,6 +1,7 @@
 """Walks by steps: tuples of things, each of them taken behind the place come to so far."""
 
 from groupwalks.groups import are_numbers_below, undone
+from groupwalks.parts import span
 
 
 def places(group, walk):
@@ -10,38 +11,35 @@ def places(group, walk):
     return tuple(come_to)
 
 
-def is_walk_by(group, steps, thing):
-    # The kind is looked at first: True would be found among steps that have 1.
-    return are_numbers_below(thing, len(group)) and all([step in steps for step in thing])
-
-
 def are_all_things(group, come_to):
     # This settles the length of the walk as well.
     return sorted(come_to) == list(range(len(group)))
 
 
-def is_way(group, steps, thing):
-    return is_walk_by(group, steps, thing) and are_all_things(group, places(group, thing))
-
-
-def is_round(group, steps, thing):
-    if not is_walk_by(group, steps, thing) or len(thing) < 2:
-        return False
-    come_to = places(group, thing)
+def comes_round(group, walk):
+    come_to = places(group, walk)
     return come_to[-1] == 0 and are_all_things(group, come_to[:-1])
 
 
+def goes_through(group, thing):
+    return are_numbers_below(thing, len(group)) and are_all_things(group, places(group, thing))
+
+
+def is_walk_by(group, steps, thing):
+    # The kind is looked at first: True would be found among steps that have 1.
+    return are_numbers_below(thing, len(group)) and all([step in steps for step in thing])
+
+
+def is_way(group, steps, thing):
+    return is_walk_by(group, steps, thing) and goes_through(group, thing)
+
+
+def is_round(group, steps, thing):
+    return is_walk_by(group, steps, thing) and len(thing) >= 2 and comes_round(group, thing)
+
+
 def reaches(group, steps):
-    reached = {0: True}
-    waiting = [0]
-    while len(waiting) > 0:
-        place = waiting.pop()
-        for step in steps:
-            onward = group[place][step]
-            if onward not in reached:
-                reached[onward] = True
-                waiting.append(onward)
-    return len(reached) == len(group)
+    return len(span(group, steps)) == len(group)
 
 
 def begun_at(walk, k):

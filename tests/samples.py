@@ -1,6 +1,6 @@
 """Groups made apart from the program, and values of all kinds, for the tests."""
 
-from itertools import permutations, product
+from itertools import accumulate, combinations, permutations, product
 
 
 def table_by(things, times):
@@ -63,6 +63,23 @@ def samples():
     return plain_samples() + other_samples()
 
 
+def is_closed(group, things):
+    return 0 in things and all(group[i][j] in things for i, j in product(things, repeat=2))
+
+
+def spanned(group, things):
+    found = {0, *things}
+    while not is_closed(group, found):
+        found |= {group[i][j] for i, j in product(found, repeat=2)}
+    return tuple(sorted(found))
+
+
+def all_parts(group):
+    # In each of the samples two things, or three, come to any part.
+    return sorted({spanned(group, things) for things in product(range(len(group)), repeat=2)} | {
+        spanned(group, things) for things in combinations(range(len(group)), 3) if len(group) <= 8})
+
+
 def nested(depth, wrap):
     thing = 0
     for _ in range(depth):
@@ -87,3 +104,51 @@ def steps_of(group, most):
         if len(steps) < most:
             found.extend(steps + (s,) for s in range(steps[-1] + 1 if steps else 1, len(group)))
     return found
+
+
+def comes_to(group, walk):
+    return list(accumulate(walk, lambda place, thing: group[place][thing], initial=0))
+
+
+def comes_to_each_once(group, walk):
+    return sorted(comes_to(group, walk)) == list(range(len(group)))
+
+
+def ways_by_trying(group, steps):
+    return [walk for walk in product(steps, repeat=len(group) - 1) if comes_to_each_once(group, walk)]
+
+
+def rounds_by_trying(group, steps):
+    if len(group) == 1:
+        return []
+    tried = product(steps, repeat=len(group))
+    return [walk for walk in tried if comes_to_each_once(group, walk[:-1]) and comes_to(group, walk)[-1] == 0]
+
+
+def walk_between(group, come_to):
+    """The walk that has these places."""
+    return tuple(group[group[place].index(0)][onward] for place, onward in zip(come_to, come_to[1:]))
+
+
+def all_ways(group):
+    """The ways by whatever steps, rising: one for each order of the things but 0."""
+    return sorted(walk_between(group, (0,) + order) for order in permutations(range(1, len(group))))
+
+
+def one_thing_otherwise(walk, things):
+    return [walk[:k] + (thing,) + walk[k + 1:] for k in range(len(walk)) for thing in things]
+
+
+def walks_otherwise(walk, group):
+    """The walk with a thing left out, put in, exchanged, or of another kind or number; never the walk itself."""
+    others = (-1, *range(len(group) + 1), 24, True, False, None, "1", [1], (1,), {})
+    left_out = [walk[:k] + walk[k + 1:] for k in range(len(walk))]
+    put_in = [walk[:k] + (thing,) + walk[k:] for k in range(len(walk) + 1) for thing in others]
+    swapped = [walk[:k] + (walk[k + 1], walk[k]) + walk[k + 2:] for k in range(len(walk) - 1)]
+    found = left_out + put_in + swapped + one_thing_otherwise(walk, others) + [list(walk), dict(enumerate(walk)), None]
+    return [other for other in found if repr(other) != repr(walk)]
+
+
+def is_among(walk, walks):
+    # By their texts, for True equals 1.
+    return repr(walk) in [repr(other) for other in walks]

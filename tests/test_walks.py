@@ -3,7 +3,8 @@ from itertools import product
 
 from groupwalks.groups import along
 from groupwalks.walks import back, begun_at, is_round, is_way, places, reaches, undone_steps
-from samples import even_swaps, grid, quaternions, samples, steps_of, swaps, turning, values_of_all_kinds
+from samples import (comes_to, even_swaps, grid, is_among, one_thing_otherwise, quaternions, rounds_by_trying, samples,
+                     steps_of, swaps, turning, values_of_all_kinds, ways_by_trying)
 
 
 def small_groups():
@@ -13,31 +14,6 @@ def small_groups():
 def step_choices(group):
     some = ((), (1,), (1, 2), (1, 3), (2, 5), (3, 4))
     return [steps for steps in steps_of(group, 2) if len(group) < 6 or steps in some]
-
-
-def comes_to(group, walk):
-    return [along(group, walk[:k]) for k in range(len(walk) + 1)]
-
-
-def ways_by_trying(group, steps):
-    tried = product(steps, repeat=len(group) - 1)
-    return [walk for walk in tried if len(set(comes_to(group, walk))) == len(group)]
-
-
-def rounds_by_trying(group, steps):
-    if len(group) == 1:
-        return []
-    tried = product(steps, repeat=len(group))
-    return [walk for walk in tried if len(set(comes_to(group, walk)[1:])) == len(group) and along(group, walk) == 0]
-
-
-def one_thing_otherwise(walk, things):
-    return [walk[:k] + (thing,) + walk[k + 1:] for k in range(len(walk)) for thing in things]
-
-
-def is_among(walk, walks):
-    # By their texts, for True equals 1.
-    return repr(walk) in [repr(other) for other in walks]
 
 
 class Point30Places(unittest.TestCase):
