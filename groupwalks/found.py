@@ -55,21 +55,25 @@ def least_round(group, steps):
     return least_end(group, steps, 0, all_but_home(group), step_home)
 
 
-def ends_many(group, steps, place, left, last):
+def all_ends(group, steps, place, left, last):
     if len(left) == 0:
-        return 0 if last(group, steps, place) is None else 1
-    found = goings(group, steps, place, left)
-    return sum([ends_many(group, steps, onward, all_but(left, onward), last) for step, onward in found])
+        end = last(group, steps, place)
+        return [] if end is None else [end]
+    found = []
+    for step, onward in goings(group, steps, place, left):
+        ends = all_ends(group, steps, onward, all_but(left, onward), last)
+        found.extend([(step,) + end for end in ends])
+    return found
 
 
 def ways_many(group, steps):
     refuse_more(group, MOST_TO_COUNT)
-    return ends_many(group, steps, 0, all_but_home(group), no_more)
+    return len(all_ends(group, steps, 0, all_but_home(group), no_more))
 
 
 def rounds_many(group, steps):
     refuse_more(group, MOST_TO_COUNT)
-    return ends_many(group, steps, 0, all_but_home(group), step_home)
+    return len(all_ends(group, steps, 0, all_but_home(group), step_home))
 
 
 def longest_end(group, steps, place, left):

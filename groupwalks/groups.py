@@ -45,6 +45,10 @@ def is_group(thing):
     return True
 
 
+def all_things(group):
+    return tuple(range(len(group)))
+
+
 def along(group, things):
     product = 0
     for thing in things:

@@ -3,7 +3,7 @@
 from groupwalks.errors import NoLift, NoTwist, TooMany
 from groupwalks.groups import MOST_THINGS, along, are_numbers_below, put_together, table_of, undone
 from groupwalks.parts import rest_group, side_numbers, span
-from groupwalks.walks import back, comes_round, goes_through
+from groupwalks.walks import back, comes_round, goes_through, threaded
 
 
 def is_to_lift(group, part, rest, walk):
@@ -47,14 +47,6 @@ def twisted(n, m, r):
 def refuse_no_ways(one, way, other, other_way):
     if not goes_through(one, way) or not goes_through(other, other_way):
         raise NoLift("not each of the two comes to each thing of its group just once")
-
-
-def threaded(group, begin, steps, piece):
-    turns = (back(group, piece), piece)
-    walk = begin
-    for k, step in enumerate(steps):
-        walk = walk + (step,) + turns[k % 2]
-    return walk
 
 
 def steps_of_one(way, other):

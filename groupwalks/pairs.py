@@ -1,8 +1,9 @@
 """Walks by just two steps: which of them each side takes tells all rounds."""
 
 from groupwalks.errors import TooMany
-from groupwalks.groups import order_of, undone
+from groupwalks.groups import all_things, order_of, undone
 from groupwalks.parts import left_sides, pieces, span
+from groupwalks.walks import all_walks
 
 MOST_SIDES = 10
 
@@ -35,7 +36,7 @@ def ring_from(group, chosen, first):
 
 def rings(group, steps, choice):
     chosen = chosen_steps(group, steps, choice)
-    return pieces(len(group), lambda least: ring_from(group, chosen, least))
+    return pieces(all_things(group), lambda least: ring_from(group, chosen, least))
 
 
 def walk_of(group, steps, choice):
@@ -44,18 +45,11 @@ def walk_of(group, steps, choice):
     return tuple([chosen[thing] for thing in ring]) if len(ring) == len(group) else None
 
 
-def all_choices(many):
-    found = [()]
-    while len(found[0]) < many:
-        found = [choice + (0,) for choice in found] + [choice + (1,) for choice in found]
-    return found
-
-
 def all_rounds_of_two(group, steps):
     many = len(sides(group, steps))
     if many > MOST_SIDES:
         raise TooMany(f"there are more than {MOST_SIDES} sides")
-    walks = [walk_of(group, steps, choice) for choice in all_choices(many)]
+    walks = [walk_of(group, steps, choice) for choice in all_walks((0, 1), many)]
     return sorted([walk for walk in walks if walk is not None])
 
 

@@ -1,20 +1,24 @@
 """Parts of a group: what things span, the sides of a part, and the rest group of a level one."""
 
 from groupwalks.errors import NotLevel
-from groupwalks.groups import are_numbers_below, table_of
+from groupwalks.groups import all_things, are_numbers_below, table_of
 
 
-def span(group, things):
-    reached = {0: True}
+def roads(group, things):
+    found = {0: ()}
     waiting = [0]
     while len(waiting) > 0:
         place = waiting.pop()
         for thing in things:
             onward = group[place][thing]
-            if onward not in reached:
-                reached[onward] = True
+            if onward not in found:
+                found[onward] = found[place] + (thing,)
                 waiting.append(onward)
-    return tuple(sorted(reached))
+    return found
+
+
+def span(group, things):
+    return tuple(sorted(roads(group, things)))
 
 
 def is_part(group, thing):
@@ -22,24 +26,24 @@ def is_part(group, thing):
     return are_numbers_below(thing, len(group)) and span(group, thing) == thing
 
 
-def pieces(many, piece_at):
+def pieces(rising, piece_at):
     found = []
     met = {}
-    for least in range(many):
+    for least in rising:
         if least not in met:
             piece = piece_at(least)
             found.append(piece)
-            for thing in piece:
-                met[thing] = True
+            for one in piece:
+                met[one] = True
     return found
 
 
 def left_sides(group, part):
-    return pieces(len(group), lambda x: tuple(sorted([group[x][thing] for thing in part])))
+    return pieces(all_things(group), lambda x: tuple(sorted([group[x][thing] for thing in part])))
 
 
 def right_sides(group, part):
-    return pieces(len(group), lambda x: tuple(sorted([group[thing][x] for thing in part])))
+    return pieces(all_things(group), lambda x: tuple(sorted([group[thing][x] for thing in part])))
 
 
 def is_level(group, part):

@@ -1,6 +1,6 @@
 """Walks by steps: tuples of things, each of them taken behind the place come to so far."""
 
-from groupwalks.groups import are_numbers_below, undone
+from groupwalks.groups import all_things, are_numbers_below, undone
 from groupwalks.parts import span
 
 
@@ -13,7 +13,7 @@ def places(group, walk):
 
 def are_all_things(group, come_to):
     # This settles the length of the walk as well.
-    return sorted(come_to) == list(range(len(group)))
+    return tuple(sorted(come_to)) == all_things(group)
 
 
 def comes_round(group, walk):
@@ -38,6 +38,16 @@ def is_round(group, steps, thing):
     return is_walk_by(group, steps, thing) and len(thing) >= 2 and comes_round(group, thing)
 
 
+def all_walks(steps, many):
+    found = [()]
+    while len(found[0]) < many:
+        longer = []
+        for walk in found:
+            longer.extend([walk + (step,) for step in steps])
+        found = longer
+    return found
+
+
 def reaches(group, steps):
     return len(span(group, steps)) == len(group)
 
@@ -48,6 +58,14 @@ def begun_at(walk, k):
 
 def back(group, walk):
     return tuple([undone(group, thing) for thing in reversed(walk)])
+
+
+def threaded(group, begin, steps, piece):
+    turns = (back(group, piece), piece)
+    walk = begin
+    for k, step in enumerate(steps):
+        walk = walk + (step,) + turns[k % 2]
+    return walk
 
 
 def undone_steps(group, steps):

@@ -135,6 +135,17 @@ def all_ways(group):
     return sorted(walk_between(group, (0,) + order) for order in permutations(range(1, len(group))))
 
 
+def every_round(group):
+    """The rounds by whatever steps, rising."""
+    if len(group) == 1:
+        return []
+    return sorted(walk_between(group, (0,) + order + (0,)) for order in permutations(range(1, len(group))))
+
+
+def by_steps(walks, steps):
+    return [walk for walk in walks if set(walk) <= set(steps)]
+
+
 def one_thing_otherwise(walk, things):
     return [walk[:k] + (thing,) + walk[k + 1:] for k in range(len(walk)) for thing in things]
 

@@ -1,12 +1,12 @@
 import unittest
-from itertools import permutations, product
+from itertools import product
 
 from groupwalks.errors import TooMany
 from groupwalks.found import least_round, least_way, longest_walk, rounds_many, ways_many
 from groupwalks.groups import flips
 from groupwalks.walks import is_round, is_way
-from samples import (all_ways, comes_to, even_swaps, grid, quaternions, rounds_by_trying, steps_of, swaps, turning,
-                     walk_between, ways_by_trying)
+from samples import (all_ways, by_steps, comes_to, even_swaps, every_round, grid, quaternions, rounds_by_trying,
+                     steps_of, swaps, turning, ways_by_trying)
 
 
 def small_groups():
@@ -19,16 +19,6 @@ def larger_groups():
 
 def groups_of_twelve():
     return [turning(12), grid(2, 6), even_swaps(4)]
-
-
-def all_rounds(group):
-    if len(group) == 1:
-        return []
-    return sorted(walk_between(group, (0,) + order + (0,)) for order in permutations(range(1, len(group))))
-
-
-def by_steps(walks, steps):
-    return [walk for walk in walks if set(walk) <= set(steps)]
 
 
 def first(walks):
@@ -45,14 +35,14 @@ def longest_by_trying(group, steps):
 class Point40TheLeastWalks(unittest.TestCase):
     def test_small_groups_by_all_steps(self):
         for group in small_groups():
-            ways, rounds = all_ways(group), all_rounds(group)
+            ways, rounds = all_ways(group), every_round(group)
             for steps in steps_of(group, 5):
                 self.assertEqual(least_way(group, steps), first(by_steps(ways, steps)))
                 self.assertEqual(least_round(group, steps), first(by_steps(rounds, steps)))
 
     def test_groups_of_seven_and_eight_things(self):
         for group in larger_groups():
-            ways, rounds = all_ways(group), all_rounds(group)
+            ways, rounds = all_ways(group), every_round(group)
             for steps in steps_of(group, 3) + [(1, 2, 3, 4), (2, 4, 5, 6), (1, 2, 3, 4, 5)]:
                 self.assertEqual(least_way(group, steps), first(by_steps(ways, steps)))
                 self.assertEqual(least_round(group, steps), first(by_steps(rounds, steps)))
@@ -126,14 +116,14 @@ class Point40TheLeastWalks(unittest.TestCase):
 class Point41HowMany(unittest.TestCase):
     def test_small_groups_by_all_steps(self):
         for group in small_groups():
-            ways, rounds = all_ways(group), all_rounds(group)
+            ways, rounds = all_ways(group), every_round(group)
             for steps in steps_of(group, 5):
                 self.assertEqual(ways_many(group, steps), len(by_steps(ways, steps)))
                 self.assertEqual(rounds_many(group, steps), len(by_steps(rounds, steps)))
 
     def test_groups_of_seven_and_eight_things(self):
         for group in larger_groups():
-            ways, rounds = all_ways(group), all_rounds(group)
+            ways, rounds = all_ways(group), every_round(group)
             for steps in steps_of(group, 2) + [(1, 2, 3), (2, 4, 5, 6), (1, 2, 3, 4, 5)]:
                 self.assertEqual(ways_many(group, steps), len(by_steps(ways, steps)))
                 self.assertEqual(rounds_many(group, steps), len(by_steps(rounds, steps)))

@@ -27,6 +27,10 @@ UNUSED_WORDS = re.compile(r"\b(type|typing|typing_extensions|enum|Enum|IntEnum|S
                           r"|dataclass|overload|contextmanager")
 TOP = (ast.ImportFrom, ast.FunctionDef, ast.ClassDef, ast.Assign)
 SPECIAL = ("__init__", "__eq__", "__repr__", "__str__", "__len__")
+WALKED = ("zip", "enumerate", "reversed", "range", "items", "keys", "values")
+WALKING = ("list", "tuple", "dict", "sorted", "sum", "any", "all", "enumerate", "zip", "min", "max", "join")
+KEYWORDS = {"sorted": ("key", "reverse"), "min": ("key", "default"), "max": ("key", "default"), "sum": ("start",),
+            "enumerate": ("start",), "zip": ("strict",)}
 
 
 def files():
@@ -50,6 +54,22 @@ def bound_names():
             yield where, node.arg
         elif not isinstance(node, ast.Name):
             yield where, node.name
+
+
+def called(node):
+    """The name of the function or method that is called, or None."""
+    if not isinstance(node, ast.Call):
+        return None
+    return node.func.attr if isinstance(node.func, ast.Attribute) else getattr(node.func, "id", None)
+
+
+def calls_within():
+    """Each call, where it stands, and what it stands in."""
+    for name, tree in trees():
+        for around in ast.walk(tree):
+            for node in ast.iter_child_nodes(around):
+                if isinstance(node, ast.Call):
+                    yield f"{name}:{node.lineno}", node, around
 
 
 class Language(unittest.TestCase):
@@ -161,3 +181,50 @@ class Language(unittest.TestCase):
         for where, node in nodes((ast.arg, ast.FunctionDef)):
             told = node.annotation if isinstance(node, ast.arg) else node.returns
             self.assertIsNone(told, f"L21 {where}")
+
+    def test_lists_and_dicts_at_the_top_hold_plain_values_and_functions_above(self):
+        for name, tree in trees():
+            above = []
+            for node in tree.body:
+                if isinstance(node, ast.FunctionDef):
+                    above.append(node.name)
+                if isinstance(node, ast.Assign):
+                    for part in list(ast.walk(node.value))[1:]:
+                        self.assertIsInstance(part, (ast.Constant, ast.Name, ast.Tuple, ast.Load), f"L15 {name}")
+                        if isinstance(part, ast.Name):
+                            self.assertIn(part.id, above, f"L3 {name}:{part.lineno}")
+
+    def test_what_is_walked_is_walked_on_the_spot(self):
+        for where, node, around in calls_within():
+            if called(node) in WALKED:
+                if isinstance(around, (ast.For, ast.comprehension)):
+                    self.assertIs(around.iter, node, f"L23 {where}")
+                else:
+                    self.assertIn(called(around), WALKING, f"L23 {where}")
+                    self.assertIs(around.args[0], node, f"L23 {where}")
+
+    def test_sets_are_not_kept(self):
+        for where, node, around in calls_within():
+            if called(node) in ("set", "frozenset"):
+                if isinstance(around, ast.Compare):
+                    self.assertIsInstance(around.ops[0], (ast.In, ast.NotIn, ast.Eq, ast.NotEq), f"L24 {where}")
+                else:
+                    self.assertIn(called(around), ("sorted", "len"), f"L24 {where}")
+                    self.assertEqual(around.keywords, [], f"L24 {where}")
+        self.assertEqual(nodes(ast.Set), [], "L13, L24")
+
+    def test_keywords(self):
+        for where, node in nodes(ast.Call):
+            for keyword in node.keywords:
+                self.assertIn(keyword.arg, KEYWORDS.get(called(node), ()), f"L22 {where}")
+
+    def test_own_methods_and_values(self):
+        taken = {name for kind in (str, int, list, tuple, dict, set, bytes) for name in dir(kind)}
+        methods = [method.name for where, node in nodes(ast.ClassDef) for method in node.body if
+                   isinstance(method, ast.FunctionDef) and method.name not in SPECIAL]
+        values = [node.attr for where, node in nodes(ast.Attribute) if isinstance(node.ctx, ast.Store)]
+        for name in methods + values:
+            self.assertNotIn(name, taken, "L26")
+            self.assertRegex(name, r"^[A-Za-z][A-Za-z0-9_]*$", "L12")
+        self.assertEqual(set(methods) & set(values), set(), "L18")
+        self.assertEqual(len(methods), len(set(methods)), "L18")
